@@ -1,0 +1,1 @@
+"""Samenames: a language server whose answers are always those of the whole text."""
