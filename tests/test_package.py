@@ -19,10 +19,21 @@ FUNCTIONS = {
               "apply_joint": ["text", "edits"], "difference": ["old", "new"],
               "line_column": ["text", "offset"], "offset_at": ["text", "line", "column"]},
     "tokens": {"tokens": ["text"], "relexed": ["text", "old", "edit"], "is_name": ["value"]},
+    "chunks": {"chunks": ["text"]},
+    "parser": {"read_item": ["text"], "read_value": ["text"]},
+    "trees": {"children": ["tree"], "nodes": ["tree"], "tree_at": ["tree", "start", "end"],
+              "same_shape": ["first", "second"]},
 }
 CLASSES = {
     "errors": ["ServerError", "InvalidEdit", "UnknownFile", "FileExists", "NothingToUndo", "Cancelled", "UnknownKey",
                "CyclicKey", "SyntaxProblem", "Refused"],
+    "keeper": ["Keeper"],
+}
+# The methods of the interface with the names of their arguments, by file and class.
+METHODS = {
+    ("keeper", "Keeper"): {"__init__": ["compute"], "put": ["key", "value"], "drop": ["key"], "ask": ["key"],
+                           "limit": ["count"], "forget": ["key"], "forget_all": [], "revision": [], "computed": [],
+                           "kept": []},
 }
 
 BUILTINS = ("len range enumerate zip min max sum abs sorted reversed int str bool list tuple dict set frozenset "
@@ -86,6 +97,13 @@ class InterfaceTest(unittest.TestCase):
             for name in names:
                 self.assertTrue(inspect.isclass(getattr(module, name)))
                 self.assertEqual(getattr(module, name).__module__, "samenames." + file)
+
+    def test_methods_are_defined_in_their_classes(self):
+        for (file, name), methods_of in METHODS.items():
+            found = getattr(importlib.import_module("samenames." + file), name)
+            for method, arguments in methods_of.items():
+                self.assertIn(method, vars(found))
+                self.assertEqual(list(inspect.signature(vars(found)[method]).parameters), ["self"] + arguments)
 
 
 class LanguageTest(unittest.TestCase):
