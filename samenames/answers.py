@@ -1,5 +1,7 @@
 """Rules for the keeper: what is told of whole modules, with places that count in the text."""
 
+from samenames.tokens import word_end
+
 
 def problems_of(keeper, module):
     """Return the problems of a module in ascending order, each once."""
@@ -40,7 +42,5 @@ def written_kind(keeper, kind):
         return kind[2]
     if kind[0] == "bound":
         text = keeper.ask(("chunk", kind[1], kind[2]))
-        for start, end, symbol, declares in keeper.ask(("names", kind[1], kind[2]))[0]:
-            if declares and symbol == ("local",) + kind[1:]:
-                return text[start:end]
+        return text[kind[3]:word_end(text, kind[3])]
     return kind[0]

@@ -23,6 +23,9 @@ def of_program(keeper, word):
 def of_module(keeper, word, module):
     """Compute what is told of a module."""
     match word:
+        case "text":
+            # What was kept of a module that is not there any more may be checked once more.
+            return ""
         case "cut":
             return cut_text(keeper, module)
         case "intro":

@@ -4,9 +4,10 @@ from samenames.kinds import BOOL, INT, UNKNOWN, meanings, target_of
 from samenames.readings import sort_of_symbol
 from samenames.trees import children, nodes
 
-# What the parts of a binary have to be, and what it is itself; "==" has parts of any kind.
-PARTS = {"+": INT, "-": INT, "*": INT, "/": INT, "<": INT, "and": BOOL, "or": BOOL}
-WHOLE = {"+": INT, "-": INT, "*": INT, "/": INT}
+# The built-in kinds that the parts of a binary have to be, and those that are not Bool themselves; "==" has
+# parts of any kind.
+PARTS = {"+": "Int", "-": "Int", "*": "Int", "/": "Int", "<": "Int", "and": "Bool", "or": "Bool"}
+WHOLE = {"+": "Int", "-": "Int", "*": "Int", "/": "Int"}
 
 
 def evaluated(value):
@@ -135,9 +136,9 @@ class Judge:
         if tree[3] == "==":
             self.equal(tree[5], self.kind(tree[4]))
         else:
-            self.equal(tree[4], PARTS[tree[3]])
-            self.equal(tree[5], PARTS[tree[3]])
-        return WHOLE.get(tree[3], BOOL)
+            self.equal(tree[4], (PARTS[tree[3]],))
+            self.equal(tree[5], (PARTS[tree[3]],))
+        return (WHOLE.get(tree[3], "Bool"),)
 
     def called(self, tree):
         """Return bounds, fields and result of what a call means, or None if the name is a problem."""

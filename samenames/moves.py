@@ -35,11 +35,22 @@ def move(program, module, offset, goal):
                 places.append((start, end, []))
             rows = changed(source, other, places)
             if other == goal:
-                text = program[goal]
-                rows.extend(plain("\n" if text and not text.endswith("\n") else ""))
+                rows.extend(plain(gap_behind(source, goal)))
                 rows.extend(taken(source, home, start, end, 0))
             woven[other] = organised(other, rows, instead)
     return settled(source, woven, instead)
+
+
+def gap_behind(source, module):
+    """Return the newline that an item needs behind the text of a module, or "" if it needs none."""
+    text = source.texts[module]
+    places = source.places(module)
+    if not text or text.endswith("\n"):
+        return ""
+    # The newline would belong to the chunk of this import, which goes away.
+    if places and source.item(module, len(places) - 1)[0] == "import":
+        return ""
+    return "\n"
 
 
 def imports_one(source, module, symbols):

@@ -154,11 +154,8 @@ class Server:
     def kind_at(self, module, offset):
         """Return the text of the kind at an offset, or "" if there is none."""
         self._check(module)
-        found = ""
-        for start, end, kind in self._keeper.ask(("kinds", module)):
-            if start <= offset <= end:
-                found = written_kind(self._keeper, kind)
-        return found
+        around = [row[2] for row in self._keeper.ask(("kinds", module)) if row[0] <= offset <= row[1]]
+        return written_kind(self._keeper, around[-1]) if around else ""
 
     def completions(self, module, offset):
         """Return the ascending list of the names that could be written at an offset as a value or be called."""

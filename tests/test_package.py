@@ -23,17 +23,41 @@ FUNCTIONS = {
     "parser": {"read_item": ["text"], "read_value": ["text"]},
     "trees": {"children": ["tree"], "nodes": ["tree"], "tree_at": ["tree", "start", "end"],
               "same_shape": ["first", "second"]},
+    "scopes": {"items": ["program", "module"], "declared": ["program", "module"], "scope": ["program", "module"],
+               "sort_of": ["program", "symbol"]},
+    "names": {"occurrences": ["program", "module", "chunk"], "name_problems": ["program", "module", "chunk"],
+              "locals_at": ["program", "module", "chunk", "offset"]},
+    "infer": {"impls": ["program"], "result_kind": ["program", "module", "chunk"], "cyclic": ["program"],
+              "judged": ["program", "module", "chunk"], "written": ["program", "kind"]},
+    "check": {"problems": ["program", "module"], "first_problem": ["program"],
+              "all_occurrences": ["program", "module"]},
+    "changes": {"rename": ["program", "module", "offset", "new"], "reorder": ["program", "module", "offset", "order"],
+                "drop_parameter": ["program", "module", "offset", "index"],
+                "extract": ["program", "module", "start", "end", "name"], "inline": ["program", "module", "offset"],
+                "is_safe": ["program", "module", "chunk", "tree"]},
+    "moves": {"organise": ["program", "module"], "move": ["program", "module", "offset", "goal"]},
 }
 CLASSES = {
     "errors": ["ServerError", "InvalidEdit", "UnknownFile", "FileExists", "NothingToUndo", "Cancelled", "UnknownKey",
                "CyclicKey", "SyntaxProblem", "Refused"],
     "keeper": ["Keeper"],
+    "server": ["Server"],
 }
 # The methods of the interface with the names of their arguments, by file and class.
 METHODS = {
     ("keeper", "Keeper"): {"__init__": ["compute"], "put": ["key", "value"], "drop": ["key"], "ask": ["key"],
                            "limit": ["count"], "forget": ["key"], "forget_all": [], "revision": [], "computed": [],
                            "kept": []},
+    ("server", "Server"): {"__init__": ["program"], "modules": [], "text": ["module"], "program": [],
+                           "open_file": ["module", "text"], "close_file": ["module"], "edit": ["module", "edit"],
+                           "undo": [], "redo": [], "problems": ["module"], "outline": ["module"],
+                           "symbol_at": ["module", "offset"], "definition": ["module", "offset"],
+                           "uses": ["module", "offset"], "kind_at": ["module", "offset"],
+                           "completions": ["module", "offset"], "limit": ["count"], "forget": [], "computations": [],
+                           "rename": ["module", "offset", "new"], "move": ["module", "offset", "goal"],
+                           "extract": ["module", "start", "end", "name"], "inline": ["module", "offset"],
+                           "reorder": ["module", "offset", "order"],
+                           "drop_parameter": ["module", "offset", "index"], "organise": ["module"]},
 }
 
 BUILTINS = ("len range enumerate zip min max sum abs sorted reversed int str bool list tuple dict set frozenset "
@@ -45,6 +69,9 @@ LIBRARY = ["heapq", "math", "itertools", "collections"]
 BARRED = ["register", "mro", "elements", "open", "input", "law", "version_info", "with_traceback", "add_note"]
 BARRED_WORDS = ("type typing typing_extensions enum Enum IntEnum StrEnum Flag IntFlag Generic Protocol ABC ABCMeta "
                 "namedtuple NamedTuple TypedDict TYPE_CHECKING abstractmethod").split()
+# Names that variables, functions, classes, imports, parameters and methods do not have; attributes may.
+BARRED_BINDINGS = ("attrgetter breakpoint builtins compile copyright credits delattr dir eval exec exit gc globals help "
+                   "id importlib license locals methodcaller os quit type vars sys").split()
 FUNCTION_NODES = (ast.FunctionDef, ast.ClassDef)
 
 
@@ -159,6 +186,39 @@ class LanguageTest(unittest.TestCase):
                     self.assertFalse(set(words) & set(BARRED_WORDS), name)
                 else:
                     self.assertFalse(set(words) & set(BARRED + BARRED_WORDS), name)
+                self.assertFalse(set(bound_names(node)) & set(BARRED_BINDINGS), name)
+
+    def test_module_level_is_plain(self):
+        for name, _, tree in sources():
+            for node in tree.body:
+                if isinstance(node, ast.Assign):
+                    self.assertEqual([type(target) for target in node.targets], [ast.Name], name)
+                    for part in ast.walk(node.value):
+                        self.assertNotIsInstance(part, (ast.Name, ast.Call, ast.Lambda), name)
+                        # Inside of a table stand no lists and no dicts.
+                        if part is not node.value:
+                            self.assertNotIsInstance(part, (ast.List, ast.Dict), name)
+                elif not isinstance(node, FUNCTION_NODES + (ast.ImportFrom,)):
+                    self.assertIsInstance(node.value, ast.Constant, name)
+
+    def test_locals_have_no_names_of_imports_and_classes(self):
+        for name, _, tree in sources():
+            taken = {alias.name for node in tree.body if isinstance(node, ast.ImportFrom) for alias in node.names}
+            taken |= {node.name for node in tree.body if isinstance(node, ast.ClassDef)}
+            for node in ast.walk(tree):
+                if isinstance(node, ast.arg) or isinstance(node, ast.Name) and not isinstance(node.ctx, ast.Load):
+                    self.assertFalse(set(bound_names(node)) & taken, (name, bound_names(node)))
+
+    def test_what_is_imported_is_defined_there_and_used(self):
+        for name, _, tree in sources():
+            used = {node.id for node in ast.walk(tree) if isinstance(node, ast.Name)}
+            for node in tree.body:
+                if isinstance(node, ast.ImportFrom) and node.module.startswith("samenames."):
+                    module = importlib.import_module(node.module)
+                    for alias in node.names:
+                        self.assertIn(alias.name, used, name)
+                        found = getattr(module, alias.name)
+                        self.assertEqual(getattr(found, "__module__", node.module), node.module, name)
 
     def test_no_floats_and_no_true_division(self):
         for name, _, tree in sources():
