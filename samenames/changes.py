@@ -115,12 +115,8 @@ def drop_parameter(program, module, offset, index):
     woven = {}
     for other in program:
         places = [dropped_place(rows, index) for name, rows in place_lists(source, symbol) if name == other]
-        changes = []
-        for start, end in sorted(places):
-            # What goes with an argument around it is not taken away again.
-            if not changes or start >= changes[-1][1]:
-                changes.append((start, end, []))
-        woven[other] = changed(source, other, changes)
+        # The places do not overlap: no argument that goes away has a call of the item, which would not be safe.
+        woven[other] = changed(source, other, [(start, end, []) for start, end in places])
     return settled(source, woven, {})
 
 

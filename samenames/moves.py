@@ -54,5 +54,5 @@ def gap_behind(source, module):
 
 
 def imports_one(source, module, symbols):
-    """Return True if a module imports one of the symbols."""
-    return any([row[2] in symbols and not row[3] for row in source.occurrences(module)])
+    """Return True if a module imports one of the symbols, as each other module does that names them."""
+    return any([row[2] in symbols for row in source.occurrences(module)])

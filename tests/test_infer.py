@@ -344,6 +344,9 @@ class ResultTest(unittest.TestCase):
         for kind, text in ((INT, "Int"), (BOOL, "Bool"), (UNKNOWN, "?"), (("data", "m", "D"), "D"),
                            (("data", "n", "E"), "E"), (("bound", "m", 1, 6), "Left"), (("bound", "m", 1, 12), "Right")):
             self.assertEqual(written(program, kind), text)
+        # Also for a bound that is doubled, and for one of a void item.
+        program = {"m": "def f[Up, Up](a: Up) = a\ndef f[V](a: V) = a\n"}
+        self.assertEqual([written(program, ("bound", "m", 0, 10)), written(program, ("bound", "m", 1, 6))], ["Up", "V"])
 
 
 if __name__ == "__main__":

@@ -505,6 +505,8 @@ class LongTest(unittest.TestCase):
         server.undo()
         server.undo()
         self.assertEqual(server.problems("m0"), [])
+        for question in QUESTIONS:
+            self.assertEqual(ask(Server(program), question, "m0", start + 6), ask(server, question, "m0", start + 6))
 
 
 class AnyStepsTest(unittest.TestCase):
