@@ -197,7 +197,7 @@ def names_of(keeper, module, chunk):
 def locals_of(keeper, module, chunk, offset):
     """Return the locals that a name at an offset of a chunk would mean as a value, by name."""
     item = keeper.ask(("read", module, chunk))[0]
-    if item[0] not in ("def", "impl"):
+    if item[0] not in ("def", "impl") or is_void(keeper, module, chunk):
         return {}
     found = {}
     for tree, around in placed(item[-1], parameters(keeper, module, chunk, item), module, chunk):

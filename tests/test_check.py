@@ -4,8 +4,9 @@ import random
 import unittest
 
 from samenames.check import all_occurrences, first_problem, problems
+from samenames.chunks import chunks
 from samenames.infer import cyclic, impls, judged, result_kind
-from samenames.names import name_problems, occurrences
+from samenames.names import locals_at, name_problems, occurrences
 from tests.helpers import at, problem
 from tests.programs import random_program, spoiled, wild_program
 from tests.reference import Reference
@@ -146,6 +147,39 @@ class RandomTest(unittest.TestCase):
                 reference = self.check(other)
                 if number % 5 == 0:
                     self.check_chunks(other, reference)
+
+    def locals_around(self, reference, module, chunk, offset):
+        """What locals_at should give, by walking down the value."""
+        item = reference.items[module, chunk]
+        if item[0] not in ("def", "impl") or reference.void(module, chunk):
+            return {}
+
+        def walk(tree, around):
+            found = around if tree[1] <= offset <= tree[2] else None
+            parts = tree[4] if tree[0] == "call" else [part for part in tree[3:] if isinstance(part, tuple)]
+            for number, part in enumerate(parts):
+                inner = around
+                if tree[0] in ("let", "loop") and number == len(parts) - 1:
+                    inner = {**around, tree[3]: ("local", module, chunk, tree[4])}
+                deeper = walk(part, inner)
+                found = found if deeper is None else deeper
+            return found
+        return walk(item[-1], reference.parameters(module, chunk)) or {}
+
+    def test_locals(self):
+        chance = random.Random(10)
+        known, void = 0, 0
+        for number in range(90):
+            program = wild_program(chance) if number % 3 else random_program(chance, 500)
+            reference = Reference(program)
+            for module, chunk in reference.items:
+                start, end = chunks(program[module])[chunk]
+                for offset in chance.sample(range(end - start + 1), min(end - start, 12)):
+                    expected = self.locals_around(reference, module, chunk, offset)
+                    self.assertEqual(locals_at(program, module, chunk, offset), expected, (program, module, chunk, offset))
+                    known += expected != {}
+                    void += reference.items[module, chunk][0] == "def" and reference.void(module, chunk)
+        self.assertGreater(min(known, void), 100)
 
     def test_made_programs_are_sound(self):
         chance = random.Random(9)

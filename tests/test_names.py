@@ -264,6 +264,35 @@ class LocalsTest(unittest.TestCase):
             for offset in range(12):
                 self.assertEqual(locals_at(program, "m", chunk, offset), {})
 
+    def test_void_items(self):
+        program = {"m": "data P()\ndef P(a: Int, b: Bool) = not False\n"}
+        for offset in range(40):
+            self.assertEqual(locals_at(program, "m", 1, offset), {})
+        # The mark that holds the name may be that of an import, also of one that binds nothing, of a data, trait or def
+        # item, of a method, or of an item that is void itself.
+        void = "def f(a: Int) = let x = a in x\n"
+        for head in ("import n: f\n", "import n: g, f\n", "import zz: f\n", "import m: f\n", "data f()\n",
+                     "trait f with q(s): Int\n", "trait T with f(s): Int\n", "def f() = 1\n",
+                     "data T()\ntrait T with f(s): Int\n"):
+            program = {"m": head + void, "n": "def f() = 1\n"}
+            for offset in range(len(void) + 1):
+                self.assertEqual(locals_at(program, "m", head.count("\n"), offset), {}, head)
+        # What introduces another name, or none, makes nothing void.
+        for head in ("import f: g\n", "import n: g\n", "data g(f: Int)\n", "# f\n", "def f(\n", "from n import f\n",
+                     "impl f for f = f\n"):
+            program = {"m": head + void, "n": "def f() = 1\n"}
+            self.assertEqual(locals_at(program, "m", 1, 16), {"a": ("local", "m", 1, 6)}, head)
+
+    def test_the_item_that_holds_the_name_keeps_its_locals(self):
+        program = {"m": "def P(a: Int, b: Bool) = not False\ndef P(c: Int) = c\ndata P()\n"}
+        self.assertEqual(locals_at(program, "m", 0, 25), {"a": ("local", "m", 0, 6), "b": ("local", "m", 0, 14)})
+        self.assertEqual(locals_at(program, "m", 1, 16), {})
+
+    def test_impls_are_never_void(self):
+        program = {"m": "trait T with m(s): Int\nimpl T for Int = 1\nimpl T for Int = s\nimpl T for X = s\n"}
+        for chunk in (1, 2, 3):
+            self.assertEqual(locals_at(program, "m", chunk, 17 if chunk < 3 else 15), {"s": ("local", "m", 0, 15)})
+
     def test_doubled_parameters(self):
         program = {"m": "def f(a: Int, a: Bool) = 1\n"}
         self.assertEqual(locals_at(program, "m", 0, 25), {"a": ("local", "m", 0, 6)})

@@ -166,6 +166,15 @@ class QuestionTest(unittest.TestCase):
         self.check("m", 7, 8, ("module", "n"), None)
         self.check("n", 20, 24, ("item", "n", "area"), ("n", 20, 24))
 
+    def test_uses_before_the_declaration(self):
+        program = {"m": "import n: g\ndef f(d: D) = h(g(d)) + d.x\ndef h(a: Int) = a\ndata D(x: Int)\n",
+                   "n": "import m: D\ndef g(d: D) = k(d)\ndef k(d: D) = d.x\n"}
+        server = Server(program)
+        for module, part, goal, mark in (("m", "h(g", "m", "h(a"), ("m", "D)", "m", "D(x"), ("m", "x\n", "m", "x: Int"),
+                                         ("n", "k(d)", "n", "k(d:"), ("n", "D)", "m", "D(x"), ("n", "x\n", "m", "x: Int")):
+            start = at(program[goal], mark)
+            self.assertEqual(server.definition(module, at(program[module], part)), (goal, start, start + 1), part)
+
     def test_offsets_of_no_symbol(self):
         server = new()
         for module, text in (("m", M), ("n", N)):
@@ -238,6 +247,18 @@ class QuestionTest(unittest.TestCase):
         server = Server({"m": "def f(f: Int) = f\n", "n": "", "o": " x\n"})
         self.assertEqual(server.completions("m", 16), ["f"])
         self.assertEqual((server.completions("n", 0), server.completions("o", 2)), ([], []))
+
+    def test_completions_in_void_items(self):
+        text = "data P()\ndef P(a: Int) = let x = a in x\ndef q(c: Int) = c\n"
+        server = Server({"m": text})
+        for offset in range(at(text, "def q") + 1):
+            self.assertEqual(server.completions("m", offset), ["P", "q"])
+        self.assertEqual(server.completions("m", at(text, "c\n")), ["P", "c", "q"])
+        # The item has locals as soon as nothing else holds its name.
+        server.edit("m", (5, 6, "Q"))
+        self.assertEqual(server.completions("m", at(text, "x\n")), ["P", "Q", "a", "q", "x"])
+        server.undo()
+        self.assertEqual(server.completions("m", at(text, "x\n")), ["P", "q"])
 
     def test_completions_at_the_ends_of_chunks(self):
         server = Server({"m": "def f(a: Int) = a\ndef g(b: Int) = b"})
