@@ -1,5 +1,6 @@
 """Random programs for the tests: sound ones, and ones in which some names or signs are wrong."""
 
+from samenames.parser import read_value
 from samenames.tokens import tokens
 
 WORDS = ["a", "b", "c", "x", "y", "n", "self", "val", "Int2"]
@@ -153,7 +154,9 @@ class Maker:
 
     def operand(self, kind, around, module, depth):
         text = self.value(kind, around, module, depth)
-        return text if text is None or text.isalnum() and not text.startswith(("let", "if", "loop")) else "(" + text + ")"
+        if text is None or read_value(text)[0] in ("number", "truth", "name", "call", "field", "group"):
+            return text
+        return "(" + text + ")"
 
     def binary(self, kind, around, module, depth):
         sign = self.chance.choice(["+", "-", "*", "/"] if kind == "Int" else ["<", "==", "and", "or", "not"])

@@ -36,6 +36,7 @@ FUNCTIONS = {
                 "extract": ["program", "module", "start", "end", "name"], "inline": ["program", "module", "offset"],
                 "is_safe": ["program", "module", "chunk", "tree"]},
     "moves": {"organise": ["program", "module"], "move": ["program", "module", "offset", "goal"]},
+    "meaning": {"evaluate": ["program", "module", "name", "arguments", "fuel"]},
 }
 CLASSES = {
     "errors": ["ServerError", "InvalidEdit", "UnknownFile", "FileExists", "NothingToUndo", "Cancelled", "UnknownKey",

@@ -8,12 +8,14 @@ from samenames.changes import drop_parameter, extract, inline, rename, reorder
 from samenames.check import first_problem
 from samenames.chunks import chunks
 from samenames.errors import Refused
+from samenames.meaning import evaluate
 from samenames.moves import move, organise
 from samenames.parser import read_item
 from samenames.tokens import tokens
 from samenames.trees import nodes
-from tests.evaluation import Evaluation, random_data, translated
+from tests.evaluation import random_data, translated
 from tests.programs import WORDS, random_program
+from tests.reference import Reference
 from tests.remaking import Refusal, Remaking
 
 CHANGES = {"rename": rename, "organise": organise, "move": move, "extract": extract, "inline": inline,
@@ -130,28 +132,27 @@ class OutcomesTest(unittest.TestCase):
         return {symbol: symbol}
 
     def compare(self, chance, program, way, arguments, found):
-        old, new = Evaluation(program), Evaluation(found)
-        instead = self.target(program, way, arguments) if way != "organise" else {}
+        old = Reference(program)
+        instead = self.target(program, way, arguments) if len(arguments) > 1 else {}
         values = 0
         for module in program:
-            for name, (sort, chunk, _) in old.reference.declared[module].items():
+            for name, (sort, chunk, _) in old.declared[module].items():
                 if sort != "def":
                     continue
                 symbol = instead.get(("item", module, name), ("item", module, name))
-                fields = old.reference.items[module, chunk][3]
-                kinds = [old.reference.kind_named(module, chunk, kind) for _, kind in fields]
+                kinds = [old.kind_named(module, chunk, kind) for _, kind in old.items[module, chunk][3]]
                 for _ in range(2):
-                    data = [random_data(chance, old.reference, kind) for kind in kinds]
+                    data = [random_data(chance, old, kind) for kind in kinds]
                     if None in data:
                         continue
-                    first = old.outcome(module, name, data)
+                    first = evaluate(program, module, name, data, 3000)
                     given = [translated(part, instead) for part in data]
                     if way in ("reorder", "drop_parameter") and ("item", module, name) in instead:
                         order = arguments[2]
                         if way == "drop_parameter":
                             order = [number for number in range(len(data)) if number != arguments[2]]
                         given = [given[number] for number in order]
-                    second = new.outcome(symbol[1], symbol[2], given)
+                    second = evaluate(found, symbol[1], symbol[2], given, 3000)
                     if ("tired",) not in (first, second):
                         self.assertEqual(translated(first, instead), second, (program, way, arguments, found, data))
                         values += first[0] == "value"
