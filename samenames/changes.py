@@ -159,10 +159,8 @@ def extract(program, module, start, end, name):
     free = free_locals(source, module, chunk, tree)
     kinds = kinds_at(source, module, chunk)
     told = [kinds[(part[1], part[2])] for part in free] + [kinds[(tree[1], tree[2])]]
-    scope = dict(source.keeper.ask(("scope", module)))
-    for kind in told:
-        if kind[0] == "data" and scope.get(kind[2]) != target_of(kind):
-            raise Refused("kind", module, start)
+    if any([not is_named(source, module, kind) for kind in told]):
+        raise Refused("kind", module, start)
     meanings = source.meanings(module)
     symbols = [meanings[shift + part[1]] for part in free]
     given = [(part[3], symbol) for part, symbol in zip(free, symbols)]
@@ -177,6 +175,12 @@ def extract(program, module, start, end, name):
     added += taken(source, module, start, end, 1) + plain("\n")
     changes = [(start, end, call), (len(text), len(text), added)]
     return settled(source, {module: changed(source, module, changes)}, {})
+
+
+def is_named(source, module, kind):
+    """Return False for the kind of a data item whose name the scope of a module does not bind to it."""
+    scope = dict(source.keeper.ask(("scope", module)))
+    return kind[0] != "data" or scope.get(kind[2]) == target_of(kind)
 
 
 def body_tree(source, module, start, end):

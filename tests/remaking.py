@@ -1,10 +1,11 @@
-"""The points 50 to 60 once more, for the tests: each change is made character by character.
+"""The points 50 to 60, 64 and 65 once more, for the tests: each change is made character by character.
 
 Each character of a new text knows the old token that it was taken from, or the new one that it belongs to, so that
 what the tokens of the new texts are intended to mean is read off their characters.
 """
 
 from samenames.chunks import chunks
+from samenames.printer import tidied
 from samenames.tokens import is_name, tokens
 from samenames.trees import nodes, tree_at
 from tests.reference import Reference, read
@@ -362,3 +363,48 @@ class Remaking:
                     found += inner(*place)
             return found
         return self.settle(self.rebuilt(symbol, fields, part), {})
+
+    def tidy(self, module):
+        cells = self.whole(module)
+        # The names of chunks keep their tokens; all other signs are new.
+        names = [cell[1] for cell in cells if cell[1] is not None and cell[2] == 0]
+        text, found, at = tidied(self.program[module]), [], 0
+        for start, end in chunks(text):
+            for sort, first, behind in tokens(text[start:end]):
+                if sort == "name":
+                    found += plain(text[at:start + first]) + names.pop(0).cells()
+                    at = start + behind
+        return self.settle({module: found + plain(text[at:])}, {})
+
+    def head(self, symbol):
+        """The item, its module, and the place from behind the bracket of its fields to the sign before its value."""
+        chunk, (start, end) = self.place_of(symbol)
+        item = self.old.items[symbol[1], chunk]
+        text = self.program[symbol[1]]
+        ends = []
+        for _, first, behind in tokens(text[start:end]):
+            if text[start + first:start + behind] == "=":
+                return item, chunk, start + ends[-3 if item[4] else -1], start + ends[-1]
+            ends.append(behind)
+
+    def annotate(self, module, offset):
+        symbol, _ = self.definition(module, offset)
+        item, chunk, bracket, _ = self.head(symbol)
+        if item[4] is not None:
+            raise Refusal("told", module, offset)
+        kind = self.old.result(symbol[1], chunk)
+        if kind[0] == "data" and self.old.scope(symbol[1]).get(kind[2]) != ("item",) + kind[1:]:
+            raise Refusal("kind", module, offset)
+        token = Token(("builtin", kind[0]), kind[0])
+        if kind[0] == "data":
+            token = Token(("item",) + kind[1:], kind[2])
+        if kind[0] == "bound":
+            token = Token(("local",) + kind[1:], [mark[0] for mark, _ in item[2] if mark[1] == kind[3]][0])
+        return self.settle({symbol[1]: self.replaced(symbol[1], [(bracket, bracket, plain(": ") + token.cells())])}, {})
+
+    def unannotate(self, module, offset):
+        symbol, _ = self.definition(module, offset)
+        item, _, bracket, end = self.head(symbol)
+        if item[4] is None:
+            raise Refusal("untold", module, offset)
+        return self.settle({symbol[1]: self.replaced(symbol[1], [(bracket, end, [])])}, {})

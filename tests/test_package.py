@@ -37,12 +37,19 @@ FUNCTIONS = {
                 "is_safe": ["program", "module", "chunk", "tree"]},
     "moves": {"organise": ["program", "module"], "move": ["program", "module", "offset", "goal"]},
     "meaning": {"evaluate": ["program", "module", "name", "arguments", "fuel"]},
+    "printer": {"print_value": ["tree"], "print_item": ["item"], "tidied": ["text"]},
+    "more": {"tidy": ["program", "module"], "annotate": ["program", "module", "offset"],
+             "unannotate": ["program", "module", "offset"], "fixes": ["program", "module"],
+             "with_fix": ["program", "module", "fix"]},
+    "looks": {"colours": ["program", "module"], "hints": ["program", "module"], "folds": ["program", "module"],
+              "signature_at": ["program", "module", "offset"], "callers": ["program", "module", "offset"]},
 }
 CLASSES = {
     "errors": ["ServerError", "InvalidEdit", "UnknownFile", "FileExists", "NothingToUndo", "Cancelled", "UnknownKey",
                "CyclicKey", "SyntaxProblem", "Refused"],
     "keeper": ["Keeper"],
     "server": ["Server"],
+    "session": ["Session"],
 }
 # The methods of the interface with the names of their arguments, by file and class.
 METHODS = {
@@ -59,6 +66,8 @@ METHODS = {
                            "extract": ["module", "start", "end", "name"], "inline": ["module", "offset"],
                            "reorder": ["module", "offset", "order"],
                            "drop_parameter": ["module", "offset", "index"], "organise": ["module"]},
+    ("session", "Session"): {"__init__": ["program"], "receive": ["message"], "work": ["count"], "told": [],
+                             "program": [], "version": ["module"], "waiting": []},
 }
 
 BUILTINS = ("len range enumerate zip min max sum abs sorted reversed int str bool list tuple dict set frozenset "

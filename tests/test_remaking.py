@@ -1,4 +1,4 @@
-"""Points 50 to 60 against another way to make changes, and point 51: what a change leaves as it was."""
+"""Points 50 to 60, 64 and 65 against another way to make changes, and point 51: what a change leaves as it was."""
 
 import random
 import re
@@ -9,6 +9,7 @@ from samenames.check import first_problem
 from samenames.chunks import chunks
 from samenames.errors import Refused
 from samenames.meaning import evaluate
+from samenames.more import annotate, tidy, unannotate
 from samenames.moves import move, organise
 from samenames.parser import read_item
 from samenames.tokens import tokens
@@ -19,7 +20,8 @@ from tests.reference import Reference
 from tests.remaking import Refusal, Remaking
 
 CHANGES = {"rename": rename, "organise": organise, "move": move, "extract": extract, "inline": inline,
-           "reorder": reorder, "drop_parameter": drop_parameter}
+           "reorder": reorder, "drop_parameter": drop_parameter, "tidy": tidy, "annotate": annotate,
+           "unannotate": unannotate}
 NAMES = WORDS + ["D1", "D2", "f3", "f4", "f5", "f6", "T2", "T3", "m3", "m4", "Int", "Bool", "q"]
 
 
@@ -61,7 +63,7 @@ def some_offset(chance, text, pattern):
 def some_arguments(chance, program, way, module):
     """Arguments for a change behind its program."""
     text = program[module]
-    if way == "organise":
+    if way in ("organise", "tidy"):
         return (module,)
     if way == "extract":
         trees = []
@@ -77,7 +79,7 @@ def some_arguments(chance, program, way, module):
         return (module, offset, chance.choice(NAMES + ["1", "if"]))
     if way == "move":
         return (module, offset, chance.choice(["a", "b", "c", "mod"]))
-    if way == "inline":
+    if way in ("inline", "annotate", "unannotate"):
         return (module, offset)
     # Mostly as many numbers as there are fields.
     head = re.search(r"def " + re.escape(text[offset:offset + 2]) + r"\b.*?\((.*?)\)", "\n".join(program.values()))
